@@ -1,0 +1,75 @@
+"""What all tests share: texts as lists of bytes, and answers as texts."""
+
+import unittest
+
+from macromarkup import markup
+
+
+def data(text):
+    """The bytes of a text in UTF-8."""
+    return list(text.encode("utf-8"))
+
+
+def shown(answer):
+    """The text that an answer of a length and bytes holds, or the answer itself if it is an error."""
+    if len(answer) == 1 and answer[0] < 0:
+        return answer
+    if answer[0] != len(answer) - 1:
+        raise AssertionError("the length isn't the number of the bytes: " + repr(answer))
+    return bytes(answer[1:]).decode("utf-8")
+
+
+class Case(unittest.TestCase):
+    """Asks the functions of the program about texts."""
+
+    def ask(self, function, text):
+        """What the function answers; the list handed in must stay as it is, and a second call must answer the same."""
+        given = data(text) if isinstance(text, str) else list(text)
+        self.assertLessEqual(len(given), 600, text)
+        kept = list(given)
+        answer = function(given)
+        self.assertEqual(given, kept, text)
+        self.assertEqual(function(given), answer, text)
+        self.assertIs(type(answer), list)
+        self.assertTrue(all([type(number) is int for number in answer]), answer)
+        return answer
+
+    def checks(self, text, *expected):
+        self.assertEqual(self.ask(markup.check, text), list(expected), text)
+
+    def fails(self, text, kind, position):
+        """The text has this error, for check and for read."""
+        self.checks(text, kind, position)
+        self.assertEqual(self.ask(markup.read, text), [-20], text)
+
+    def reads(self, text, notation, count=None):
+        """The text has the document with this notation, one line for each block."""
+        self.assertEqual(shown(self.ask(markup.read, text)), notation, text)
+        if count is None:
+            count = len(notation.split("\n")) if notation else 0
+        self.checks(text, 0, count)
+
+    def tokenizes(self, text, *expected):
+        """The tokens as pairs of their positions and kinds."""
+        answer = self.ask(markup.tokens, text)
+        self.assertEqual(answer[0], len(answer) // 2, text)
+        self.assertEqual(list(zip(answer[1::2], answer[2::2])), list(expected), text)
+
+    def expands(self, text, expected):
+        self.assertEqual(shown(self.ask(markup.expand, text)), expected, text)
+
+    def fails_in_expansion(self, text, kind, position):
+        """The text has this error, and it isn't one of the tokens."""
+        self.fails(text, kind, position)
+        self.assertEqual(self.ask(markup.expand, text), [-20], text)
+        self.assertGreaterEqual(self.ask(markup.tokens, text)[0], 0, text)
+
+    def fails_in_tokens(self, text, kind, position):
+        self.fails(text, kind, position)
+        self.assertEqual(self.ask(markup.expand, text), [-20], text)
+        self.assertEqual(self.ask(markup.tokens, text), [-20], text)
+
+    def fails_in_tree(self, text, kind, position):
+        """The text has this error, but its tokens can be expanded."""
+        self.fails(text, kind, position)
+        self.assertGreaterEqual(self.ask(markup.expand, text)[0], 0, text)
