@@ -16,8 +16,6 @@ BRACES = "braces"
 CELL = "cell"
 CAPTION = "caption"
 
-INLINE_MODES = (LINE, BRACES, CELL, CAPTION)
-
 
 class Frame:
     """Something that is being read: in which mode, the node that is filled, and the command it began with."""
@@ -26,6 +24,11 @@ class Frame:
         self.mode = mode
         self.node = node
         self.begin = begin
+
+
+def is_in_line(frame):
+    """Whether inline elements stand in the frame."""
+    return frame.mode in (LINE, BRACES, CELL, CAPTION)
 
 
 class Reading:

@@ -2,7 +2,7 @@
 
 from macromarkup.blocks import read_block
 from macromarkup.entries import read_entry
-from macromarkup.frames import BLOCKS, ENTRIES, INLINE_MODES, ROWS, Reading
+from macromarkup.frames import BLOCKS, ENTRIES, ROWS, Reading, is_in_line
 from macromarkup.inlines import read_in_line
 from macromarkup.nodes import Node
 from macromarkup.tables import read_figure, read_row
@@ -13,14 +13,14 @@ def tree_of(tokens):
     document = Node("document", (), [])
     reading = Reading(tokens, document)
     while reading.rest:
-        mode = reading.frames[-1].mode
-        if mode in INLINE_MODES:
+        frame = reading.frames[-1]
+        if is_in_line(frame):
             read_in_line(reading)
-        elif mode == BLOCKS:
+        elif frame.mode == BLOCKS:
             read_block(reading)
-        elif mode == ENTRIES:
+        elif frame.mode == ENTRIES:
             read_entry(reading)
-        elif mode == ROWS:
+        elif frame.mode == ROWS:
             read_row(reading)
         else:
             read_figure(reading)

@@ -14,7 +14,9 @@ class Ordinary(Case):
                    '(table "t" (caption) (align left) (row (cell "a" (code "|"))))')
 
     def test_no_blocks(self):
-        for text in "", " ", "\n\n\n", "%x", "{}", "{ }", "\\emph{}", "\\newcommand\\a{}\\a", "\\ ", "\\newline", "{{}}\n\n{}":
+        for text in (
+            "", " ", "\n\n\n", "%x", "{}", "{ }", "\\emph{}", "\\newcommand\\a{}\\a", "\\ ", "\\newline", "{{}}\n\n{}",
+        ):
             self.reads(text, "")
         self.assertEqual(self.ask(markup.read, ""), [0])
         self.assertEqual(self.ask(markup.check, ""), [0, 0])
@@ -69,7 +71,8 @@ class Ordinary(Case):
         self.reads("\\begin{code}{}\n\\end{code}", '(code "" "")')
         self.reads("\\begin{code}{}\n\n\\end{code}", '(code "" "")')
         self.reads("\\begin{code}{}\n\n\n\\end{code}", '(code "" "\\n")')
-        self.reads("\\begin{formula}{}\n%{\\a#$\n\\end{code}\n\\end{formula}", '(formula "" "%{\\\\a#$\\n\\\\end{code}")')
+        self.reads("\\begin{formula}{}\n%{\\a#$\n\\end{code}\n\\end{formula}",
+                   '(formula "" "%{\\\\a#$\\n\\\\end{code}")')
 
     def test_a_code_that_is_no_literal_content(self):
         self.fails_in_tree("x\\begin{code}x\\end{code}", 9, 1)
@@ -214,7 +217,8 @@ class Tables(Case):
     def test_what_may_not_stand_in_a_cell(self):
         at = len("\\begin{table}{}{l}{}")
         for wrong in (
-            "\\rule", "\\section{a}", "\\begin{quote}\\end{quote}", "\\item", "\\term{a}", "\\begin{code}{}\n\\end{code}",
+            "\\rule", "\\section{a}", "\\begin{quote}\\end{quote}", "\\item", "\\term{a}",
+            "\\begin{code}{}\n\\end{code}",
         ):
             self.fails_in_tree(self.table(wrong), 9, at)
         self.fails_in_tree(self.table("{&}"), 9, at + 1)
@@ -245,7 +249,8 @@ class Figures(Case):
     def test_figures(self):
         self.reads("\\begin{figure}{i}{a.png}b\\end{figure}", '(figure "i" "a.png" "b")')
         self.reads("\\begin{figure}{}{}\\end{figure}", '(figure "" "")')
-        self.reads("\\begin{figure} { } {a b}\n\n \n\n b \\emph{c}\n\n \n\n\\end{figure}", '(figure "" "a b" "b " (emph "c"))')
+        self.reads("\\begin{figure} { } {a b}\n\n \n\n b \\emph{c}\n\n \n\n\\end{figure}",
+                   '(figure "" "a b" "b " (emph "c"))')
         self.reads("\\begin{figure}{}{}a\\\\b\\end{figure}", '(figure "" "" "a" (break) "b")')
 
     def test_wrong_figures(self):

@@ -122,6 +122,7 @@ class Arguments(Case):
         self.fails_in_expansion(head + "\\a[b", 1, 25)
         self.fails_in_expansion(head + "\\a [b", 1, 26)
         self.fails_in_expansion(head + "{\\a[b}]", 1, 26)
+        self.fails_in_expansion(head + "{\\a[b}{]c}", 1, 26)
         self.fails_in_expansion(head + "\\a[{]}", 1, 25)
         self.fails_in_expansion(head + "\\a[{]", 1, 25)
 
@@ -225,6 +226,12 @@ class Scopes(Case):
         self.expands("\\begin{quote}\\newcommand\\a{x}{\\a}\\end{quote}", "\\begin {quote}{x}\\end {quote}")
         self.fails_in_expansion("\\begin{quote}\\newcommand\\a{x}\\end{quote}\\a", 3, 40)
         self.fails_in_expansion("\\begin{quote}\\newenvironment{e}{}{}\\end{quote}\\begin{e}\\end{e}", 3, 46)
+
+    def test_definitions_are_those_of_the_innermost_scope(self):
+        self.fails_in_expansion("{\\newcommand\\a{x}\\newcommand\\a{y}}", 7, 17)
+        self.expands("{\\newcommand\\a{x}\\renewcommand\\a{y}\\a}", "{y}")
+        self.fails_in_expansion("{\\newenvironment{e}{}{}\\newenvironment{e}{}{}}", 7, 23)
+        self.expands("{\\newenvironment{e}{x}{}}\\newenvironment{e}{y}{}\\begin{e}\\end{e}", "{}y")
 
     def test_a_group_of_a_definition_or_an_argument_has_no_scope(self):
         self.expands("\\newcommand\\a{\\newcommand\\b{x}}\\a\\b", "x")
@@ -386,14 +393,16 @@ class Conditions(Case):
 
     def test_ifsame(self):
         for first, second in (
-            ("", ""), (" ", ""), ("a", "a"), (" a b ", "a\tb"), ("~", "\u00a0"), ("\\verb|a|", "\\verb!a!"), ("\n\n", "\n\n\n"),
+            ("", ""), (" ", ""), ("a", "a"), (" a b ", "a\tb"), ("~", "\u00a0"), ("\\verb|a|", "\\verb!a!"),
+            ("\n\n", "\n\n\n"),
             ("\\emph {x}", "\\emph{x}"), ("$x$", "$x$"), ("\\%", "\\%"), ("a%x\nb", "ab"), ("#1", "#1"),
             ("\\begin{code}{a}\n\n\\end{code}", "\\begin{code}{a}\n\\end{code}"),
         ):
             self.expands("\\ifsame{" + first + "}{" + second + "}{c}{d}", "c")
         for first, second in (
             ("a", ""), ("a", "A"), ("\\ a", "a"), ("ab", "a b"), ("a", "\\emph"), ("\\emph", "\\strong"),
-            ("\\verb|a|", "\\verb|b|"), ("\\verb|a|", "$a$"), ("{a}", "a"), (" ", "\n\n"), ("a %\n\nb", "a b"), ("#1", "#2"),
+            ("\\verb|a|", "\\verb|b|"), ("\\verb|a|", "$a$"), ("{a}", "a"), (" ", "\n\n"), ("a %\n\nb", "a b"),
+            ("#1", "#2"),
             ("\\begin{code}{a}\nx\n\\end{code}", "\\begin{code}{}\nx\n\\end{code}"), ("!", "\\!"),
             ("\\begin{code}{a}\nx\n\\end{code}", "\\begin{formula}{a}\nx\n\\end{formula}"), ("a~", "a"), ("\n\na", "a"),
         ):

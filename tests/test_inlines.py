@@ -19,6 +19,7 @@ class Ordinary(Case):
 
     def test_escapes_of_the_notation(self):
         self.inline("\"\\backslash\x00\x01\x0b\x1f\x7f", '"\\"\\\\\\u{0}\\u{1}\\u{b}\\u{1f}\x7f"')
+        self.inline("\x09\x0e\x0f\x10\x11", '"\\u{e}\\u{f}\\u{10}\\u{11}"')
         self.inline("$a\tb\nc\rd\x10$", '(math "a\\tb\\nc\\u{d}d\\u{10}")')
 
     def test_codes_and_math(self):
@@ -55,7 +56,7 @@ class Ordinary(Case):
                 self.fails_in_tree("x\\" + name + "{a" + wrong + "}{b}", 5, 1)
 
     def test_missing_arguments(self):
-        for name in "emph", "strong", "strike", "super", "sub", "caps", "noteref", "ref", "cite", "link", "image", "span":
+        for name in "emph strong strike super sub caps noteref ref cite link image span".split():
             self.fails_in_tree("x\\" + name, 4, 1)
             self.fails_in_tree("x\\" + name + " y", 4, 1)
             self.fails_in_tree("x\\" + name + "\n\n{y}", 4, 1)
@@ -124,7 +125,8 @@ class NormalInlines(Case):
         self.inline("\\emph{\\strong{a}}\\emph{\\strong{b}c}", '(emph (strong "ab") "c")')
         self.inline("\\link{x}{a}\\link{x}{b}\\link{y}{c}", '(link "x" "ab") (link "y" "c")')
         self.inline("\\span{x}{a}\\span{x}{b}\\span{x,y}{c}\\span{y,x}{d}\\span{x}{e}",
-                    '(span (class "x") "ab") (span (class "x" "y") "c") (span (class "y" "x") "d") (span (class "x") "e")')
+                    '(span (class "x") "ab") (span (class "x" "y") "c") (span (class "y" "x") "d") '
+                    '(span (class "x") "e")')
         self.inline("\\image{x}{a}\\image{x}{a}", '(image "x" "a") (image "x" "a")')
         self.inline("\\emph{\\verb|a|}\\emph{$b$}", '(emph (code "a") (math "b"))')
         self.inline("\\emph{\\strong{a}b}\\emph{\\strong{c}}", '(emph (strong "a") "b" (strong "c"))')
@@ -191,7 +193,8 @@ class NormalBlocks(Case):
                    '(bullets (item (para "a")) (item) (item (para "b")))')
         self.reads(self.bullets("\\item") + "\\rule" + self.bullets("\\item"),
                    "(bullets (item))\n(rule)\n(bullets (item))")
-        self.reads(self.bullets("\\item" + self.bullets("\\item a")) + self.bullets("\\item" + self.bullets("\\item b")),
+        first, second = self.bullets("\\item a"), self.bullets("\\item b")
+        self.reads(self.bullets("\\item" + first) + self.bullets("\\item" + second),
                    '(bullets (item (bullets (item (para "a")))) (item (bullets (item (para "b")))))')
         self.reads(self.bullets("\\item" + self.quote("a") + self.quote("b")),
                    '(bullets (item (quote (para "a") (para "b"))))')
@@ -226,7 +229,8 @@ class NormalBlocks(Case):
                    "(bullets (item) (item))")
         self.reads(self.quote(self.group("")) + self.group(self.numbers(1, "\\item")) + self.numbers(2, "\\item"),
                    "(numbers 1 (item) (item))")
-        self.reads(self.group(self.quote("a") + self.quote("b"), "x"), '(group (class "x") (quote (para "a") (para "b")))')
+        self.reads(self.group(self.quote("a") + self.quote("b"), "x"),
+                   '(group (class "x") (quote (para "a") (para "b")))')
 
     def test_empty_blocks(self):
         self.reads("{}\n\n\\emph{}\n\na", '(para "a")')

@@ -16,7 +16,8 @@ class Kinds(Case):
     def test_each_kind(self):
         self.tokenizes(
             "\\a{b}\\% c\n\nd&#1$e$\\verb|f|",
-            (0, 1), (2, 6), (3, 2), (4, 7), (5, 3), (7, 4), (8, 2), (9, 5), (11, 2), (12, 9), (13, 8), (15, 10), (18, 11),
+            (0, 1), (2, 6), (3, 2), (4, 7), (5, 3), (7, 4), (8, 2), (9, 5), (11, 2), (12, 9), (13, 8),
+            (15, 10), (18, 11),
         )
         self.tokenizes(
             "\\begin{code}{}\nx\n\\end{code}\\begin{formula}{}\nx\n\\end{formula}", (0, 12), (27, 13),
@@ -69,6 +70,8 @@ class Signs(Case):
         self.fails_in_tokens("ab#", 7, 2)
         self.fails_in_tokens("#a", 7, 0)
         self.fails_in_tokens("##1", 7, 0)
+        self.fails_in_tokens("#:", 7, 0)
+        self.fails_in_tokens("#/", 7, 0)
         self.fails_in_tokens("#\u0661", 7, 0)
 
     def test_math(self):
@@ -159,7 +162,8 @@ class LiteralContent(Case):
             answer = self.ask(markup.tokens, head + tail)
             self.assertEqual(answer[1:3], [0, 1], head)
             self.assertGreater(answer[0], 10, head)
-        self.assertGreater(self.ask(markup.tokens, "\\begin{code}{}")[0], 1)
+        for head in "\\begin{code}{}", "\\begin{code}{a", "\\begin{code}{", "\\begin{code}", "\\begin{formula}{a}":
+            self.assertGreater(self.ask(markup.tokens, head)[0], 4, head)
 
 
 class WrongBytes(Case):
@@ -168,7 +172,8 @@ class WrongBytes(Case):
             [0x80], [0xbf], [0xc0, 0x80], [0xc1, 0xbf], [0xc3], [0xc3, 0x41], [0xe2, 0x82], [0xe2, 0x82, 0x41],
             [0xe0, 0x9f, 0xbf], [0xed, 0xa0, 0x80], [0xed, 0xbf, 0xbf], [0xf0, 0x9f, 0x98], [0xf0, 0x8f, 0xbf, 0xbf],
             [0xf4, 0x90, 0x80, 0x80], [0xf5, 0x80, 0x80, 0x80], [0xf8, 0x88, 0x80, 0x80, 0x80], [0xfe], [0xff],
-            [0xc3, 0xa9, 0xa9], [0xe2, 0xc2, 0x80],
+            [0xc3, 0xa9, 0xa9], [0xe2, 0xc2, 0x80], [0xbf, 0x80], [0xc3, 0x7f], [0xc3, 0xc0], [0xf8, 0x90, 0x80, 0x80],
+            [0xf7, 0xbf, 0xbf, 0xbf], [0xe2, 0x82, 0xc0], [0xf0, 0x9f, 0x7f, 0x80],
         ):
             for before in [], [0x24], [0x25], [0x5c]:
                 for after in [], [0x24], [0x0a]:
@@ -176,7 +181,10 @@ class WrongBytes(Case):
                         self.assertEqual(self.ask(function, before + wrong + after), [-24], wrong)
 
     def test_the_ends_of_what_is_allowed(self):
-        for code in 0x7f, 0x80, 0x7ff, 0x800, 0xd7ff, 0xe000, 0xfffd, 0xffff, 0x10000, 0x10ffff:
+        for code in (
+            0x7f, 0x80, 0xbf, 0xc0, 0x7ff, 0x800, 0xfff, 0x1000, 0xd7ff, 0xe000, 0xfeff, 0xfffd, 0xffff, 0x10000,
+            0x3ffff, 0x40000, 0x7ffff, 0x80000, 0xfffff, 0x100000, 0x10ffff,
+        ):
             self.tokenizes(chr(code) + "a", (0, 2), (1, 2))
             self.expands(chr(code), chr(code))
 
