@@ -5,8 +5,8 @@ next one is taken from its end.
 """
 
 from macromarkup.faults import INVALID, MISSING, NOT_CLOSED, TextFault
-from macromarkup.lexis import CHARACTER, CLOSING, ESCAPED, MARK, OPENING, PARAGRAPH, SPACE, is_character
-from macromarkup.signs import BLANK, LEFT_BRACKET, RIGHT_BRACKET, is_digit, is_label, name_of, trimmed
+from macromarkup.lexis import CLOSING, MARK, OPENING, PARAGRAPH, SPACE, is_character, sign_code
+from macromarkup.signs import LEFT_BRACKET, RIGHT_BRACKET, is_digit, is_label, name_of, trimmed
 
 MOST_DIGITS = 6
 
@@ -78,12 +78,10 @@ def plain_codes(tokens, command):
     """The code points of an argument that may have characters, escaped ones and spaces, without spaces at its ends."""
     codes = []
     for token in tokens:
-        if token.kind == SPACE:
-            codes.append(BLANK)
-        elif token.kind in (CHARACTER, ESCAPED):
-            codes.append(token.value)
-        else:
+        code = sign_code(token)
+        if code is None:
             raise TextFault(INVALID, command.position)
+        codes.append(code)
     return tuple(trimmed(codes))
 
 

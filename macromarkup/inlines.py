@@ -4,8 +4,7 @@ from macromarkup.arguments import label_of
 from macromarkup.faults import NOT_ALLOWED, TextFault
 from macromarkup.frames import BRACES, CELL, enter_braces, take_group
 from macromarkup.language import STYLES
-from macromarkup.lexis import CELL_MARK, CHARACTER, CLOSING, COMMAND, ESCAPED, LITERAL, MATH, OPENING, PARAGRAPH
-from macromarkup.lexis import SPACE, is_command
+from macromarkup.lexis import CELL_MARK, CLOSING, COMMAND, LITERAL, MATH, OPENING, PARAGRAPH, is_command, sign_code
 from macromarkup.naming import keys_of, labels_of, target_of
 from macromarkup.nodes import Node
 from macromarkup.signs import BACKSLASH, BLANK
@@ -34,18 +33,16 @@ def ends_cell(token):
 
 def is_sign(token):
     """Whether the token is an inline element by itself."""
-    return token.kind in (CHARACTER, ESCAPED, SPACE, MATH, LITERAL)
+    return sign_code(token) is not None or token.kind in (MATH, LITERAL)
 
 
 def add_sign(children, token):
-    if token.kind == SPACE:
-        children.append(BLANK)
-    elif token.kind == MATH:
+    if token.kind == MATH:
         children.append(Node("math", (token.value,), []))
     elif token.kind == LITERAL:
         children.append(Node("code", (token.value,), []))
     else:
-        children.append(token.value)
+        children.append(sign_code(token))
 
 
 def leave_line(reading, frame, token):

@@ -1,5 +1,7 @@
 """Tokens and their kinds."""
 
+from macromarkup.signs import BLANK
+
 COMMAND = 1
 CHARACTER = 2
 ESCAPED = 3
@@ -39,6 +41,15 @@ def is_character(token, code):
 
 def is_command(token, name):
     return token.kind == COMMAND and token.value == name
+
+
+def sign_code(token):
+    """The code point that a character, an escaped one or a space stands for; None for any other token."""
+    if token.kind == SPACE:
+        return BLANK
+    if token.kind in (CHARACTER, ESCAPED):
+        return token.value
+    return None
 
 
 def characters(text, position):

@@ -2,8 +2,8 @@
 
 from macromarkup.arguments import plain_codes
 from macromarkup.faults import INVALID, TextFault
-from macromarkup.lexis import CHARACTER, CLOSING, ESCAPED, OPENING, SPACE, is_command
-from macromarkup.signs import BACKSLASH, BLANK, COMMA, is_label, trimmed
+from macromarkup.lexis import CLOSING, OPENING, is_command, sign_code
+from macromarkup.signs import BACKSLASH, COMMA, is_label, trimmed
 
 ALIGNMENTS = {"n": "none", "l": "left", "c": "center", "r": "right"}
 
@@ -62,10 +62,9 @@ def target_of(tokens, command):
     """The code points of a target."""
     codes = []
     for token in tokens:
-        if token.kind == SPACE:
-            codes.append(BLANK)
-        elif token.kind in (CHARACTER, ESCAPED):
-            codes.append(token.value)
+        code = sign_code(token)
+        if code is not None:
+            codes.append(code)
         elif is_command(token, "backslash"):
             codes.append(BACKSLASH)
         elif token.kind not in (OPENING, CLOSING):

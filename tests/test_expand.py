@@ -4,8 +4,10 @@ import unittest
 
 from helper import Case, data, shown
 from macromarkup import markup
+from macromarkup.arguments import take_argument
 from macromarkup.expansion import expanded
-from macromarkup.lexis import PARAMETER, Token
+from macromarkup.faults import TextFault
+from macromarkup.lexis import CLOSING, COMMAND, MARK, OPENING, PARAMETER, Token
 from macromarkup.scan import scanned
 from macromarkup.showing import text_of
 
@@ -275,6 +277,13 @@ class Environments(Case):
             "\\newcommand\\a[1][d]{#1}\\newenvironment{e}{\\a[}{}\\begin{e}x]\\end{e}", 1, 44,
         )
         self.expands("\\newcommand\\a[1][d]{#1}\\newenvironment{e}{\\a}{}\\begin{e}[x]\\end{e}", "d[x]")
+
+    def test_a_group_with_a_mark_in_it_has_no_end(self):
+        # No text brings a mark into a group, for what is defined is balanced.
+        tokens = [Token(kind, position, None) for position, kind in enumerate((OPENING, MARK, CLOSING))]
+        with self.assertRaises(TextFault) as caught:
+            take_argument(list(reversed(tokens)), Token(COMMAND, 7, "a"))
+        self.assertEqual((caught.exception.kind, caught.exception.position), (1, 0))
 
     def test_an_argument_of_another_command_ends_at_a_mark(self):
         head = "\\newenvironment{e}{\\setcounter{c}}{}"
