@@ -2,6 +2,7 @@
 
 from macromarkup.expansion import expanded
 from macromarkup.faults import BadBytes, TextFault, TooDeep
+from macromarkup.inventory import counters_of, macros_of
 from macromarkup.normal import normalize
 from macromarkup.notation import notation_of
 from macromarkup.scan import scanned
@@ -51,7 +52,7 @@ def tokens(text):
 def expand(text):
     """The length and the bytes of the text of the expanded tokens."""
     try:
-        codes = text_of(expanded(scanned(decoded(text))).done)
+        codes = text_of(expansion_of(text).done)
     except BadBytes:
         return [-24]
     except TextFault:
@@ -59,9 +60,36 @@ def expand(text):
     return with_length(encoded(codes))
 
 
+def macros(text):
+    """The length and the bytes of an expression for each macro and each environment that is defined at the end."""
+    try:
+        codes = macros_of(expansion_of(text))
+    except BadBytes:
+        return [-24]
+    except TextFault:
+        return [-20]
+    return with_length(encoded(codes))
+
+
+def counters(text):
+    """The length and the bytes of an expression for each counter with its value at the end."""
+    try:
+        codes = counters_of(expansion_of(text))
+    except BadBytes:
+        return [-24]
+    except TextFault:
+        return [-20]
+    return with_length(encoded(codes))
+
+
+def expansion_of(text):
+    """The state at the end of the expansion of a text."""
+    return expanded(scanned(decoded(text)))
+
+
 def document_of(text):
     """The document of a text in normal form."""
-    document = tree_of(expanded(scanned(decoded(text))).done)
+    document = tree_of(expansion_of(text).done)
     normalize(document)
     return document
 

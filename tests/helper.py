@@ -58,18 +58,32 @@ class Case(unittest.TestCase):
     def expands(self, text, expected):
         self.assertEqual(shown(self.ask(markup.expand, text)), expected, text)
 
+    def defines(self, text, *expected):
+        """The expressions of the macros and environments."""
+        self.assertEqual(shown(self.ask(markup.macros, text)), "\n".join(expected), text)
+
+    def counts(self, text, *expected):
+        """The expressions of the counters."""
+        self.assertEqual(shown(self.ask(markup.counters, text)), "\n".join(expected), text)
+
+    def refuses_all(self, text, code):
+        """Whatever needs the expansion, but not the tree, has this error."""
+        for function in markup.expand, markup.macros, markup.counters:
+            self.assertEqual(self.ask(function, text), [code], text)
+
     def fails_in_expansion(self, text, kind, position):
         """The text has this error, and it isn't one of the tokens."""
         self.fails(text, kind, position)
-        self.assertEqual(self.ask(markup.expand, text), [-20], text)
+        self.refuses_all(text, -20)
         self.assertGreaterEqual(self.ask(markup.tokens, text)[0], 0, text)
 
     def fails_in_tokens(self, text, kind, position):
         self.fails(text, kind, position)
-        self.assertEqual(self.ask(markup.expand, text), [-20], text)
+        self.refuses_all(text, -20)
         self.assertEqual(self.ask(markup.tokens, text), [-20], text)
 
     def fails_in_tree(self, text, kind, position):
         """The text has this error, but its tokens can be expanded."""
         self.fails(text, kind, position)
-        self.assertGreaterEqual(self.ask(markup.expand, text)[0], 0, text)
+        for function in markup.expand, markup.macros, markup.counters:
+            self.assertGreaterEqual(self.ask(function, text)[0], 0, text)

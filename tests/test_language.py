@@ -8,7 +8,7 @@ import unittest
 from pathlib import Path
 
 PACKAGE = Path(__file__).resolve().parent.parent / "macromarkup"
-INTERFACE = ("check", "read", "tokens", "expand")
+INTERFACE = ("check", "read", "tokens", "expand", "macros", "counters")
 
 NODES = """
 Module Expr Constant ImportFrom alias FunctionDef arguments arg ClassDef Assign AugAssign If While For Return Break
