@@ -4,13 +4,11 @@ from macromarkup.arguments import label_of, name_in, number_of, take_optional
 from macromarkup.entries import LISTS, begin_list
 from macromarkup.faults import INVALID, NOT_ALLOWED, TextFault
 from macromarkup.frames import BLOCKS, LINE, enter_braces, take_end, take_group
-from macromarkup.language import HEADINGS
+from macromarkup.language import HEADINGS, MOST_LEVELS
 from macromarkup.lexis import CELL_MARK, CLOSING, CODE, COMMAND, FORMULA, PARAGRAPH, SPACE
 from macromarkup.naming import labels_of
 from macromarkup.nodes import Node
 from macromarkup.tables import begin_figure, begin_table
-
-MOST_LEVELS = 6
 
 
 def read_block(reading):

@@ -23,5 +23,13 @@ class TextFault(Exception):
         self.position = position
 
 
+class BadNotation(Exception):
+    """A tree isn't the notation of a document."""
+
+
+class NotExpressible(Exception):
+    """A document has losses, so it has no text."""
+
+
 class TooDeep(Exception):
     """The lists of a notation would be nested too deeply."""

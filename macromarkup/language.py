@@ -6,6 +6,7 @@ EXPANDED_COMMANDS = (
     "arabic", "roman", "alph", "ifempty", "ifsame", "begin", "end",
 )
 HEADINGS = {"section": 1, "subsection": 2, "subsubsection": 3}
+MOST_LEVELS = 6
 STYLES = ("emph", "strong", "strike", "super", "sub", "caps")
 TREE_COMMANDS = {
     "\\": True, "section": True, "subsection": True, "subsubsection": True, "heading": True, "rule": True,

@@ -1,14 +1,17 @@
 """The functions of the program: each takes lists of bytes and gives back a list of whole numbers."""
 
+from macromarkup.documents import document_from
 from macromarkup.expansion import expanded
-from macromarkup.faults import BadBytes, TextFault, TooDeep
+from macromarkup.faults import BadBytes, BadNotation, NotExpressible, TextFault, TooDeep
 from macromarkup.inventory import counters_of, macros_of
+from macromarkup.lost import losses_of
 from macromarkup.normal import normalize
 from macromarkup.notation import notation_of
 from macromarkup.scan import scanned
 from macromarkup.showing import text_of
 from macromarkup.tree import tree_of
 from macromarkup.utf import decoded, encoded
+from macromarkup.writing import written
 
 
 def check(text):
@@ -82,6 +85,26 @@ def counters(text):
     return with_length(encoded(codes))
 
 
+def write(tree):
+    """The length and the bytes of the text of the document."""
+    try:
+        codes = written(document_in(tree))
+    except BadNotation:
+        return [-20]
+    except NotExpressible:
+        return [-33]
+    return with_length(encoded(codes))
+
+
+def losses(tree):
+    """The number of the losses of the document, and their kinds."""
+    try:
+        kinds = losses_of(document_in(tree))
+    except BadNotation:
+        return [-20]
+    return [len(kinds)] + kinds
+
+
 def expansion_of(text):
     """The state at the end of the expansion of a text."""
     return expanded(scanned(decoded(text)))
@@ -90,6 +113,13 @@ def expansion_of(text):
 def document_of(text):
     """The document of a text in normal form."""
     document = tree_of(expansion_of(text).done)
+    normalize(document)
+    return document
+
+
+def document_in(tree):
+    """The document of a notation in normal form."""
+    document = document_from(tree)
     normalize(document)
     return document
 

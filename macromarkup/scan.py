@@ -3,6 +3,7 @@
 from macromarkup.faults import BAD_DEFINITION, INVALID, MISSING, NOT_CLOSED, UNKNOWN_NAME, TextFault
 from macromarkup.lexis import CELL_MARK, CHARACTER, CLOSING, CODE, COMMAND, ESCAPED, FORMULA, LITERAL, MATH, OPENING
 from macromarkup.lexis import PARAGRAPH, PARAMETER, SPACE, Token
+from macromarkup.lines import line_end, line_with
 from macromarkup.signs import AMPERSAND, BACKSLASH, BLANK, BLANKS, DOLLAR, HARD_BLANK, HASH, LEFT_BRACE, LINE_FEED
 from macromarkup.signs import LONGEST_LABEL, PERCENT, RIGHT_BRACE, TILDE, WHITE, codes_of, is_label_sign, is_letter
 from macromarkup.signs import is_punctuation, name_of
@@ -73,13 +74,6 @@ def scan_white(scanner):
         scanner.put(PARAGRAPH, end, None)
     else:
         scanner.put(SPACE, end, None)
-
-
-def line_end(codes, at):
-    """Where the next line begins, or the end of the text if there is none."""
-    while at < len(codes) and codes[at] != LINE_FEED:
-        at += 1
-    return min(at + 1, len(codes))
 
 
 def skip_comment(scanner):
@@ -183,11 +177,9 @@ def scan_content_of(scanner, name, kind):
 def put_content(scanner, kind, label, start, tail):
     """Takes the literal content that begins at the start, up to the first line that begins with the tail."""
     codes = scanner.codes
-    line = start
-    while codes[line:line + len(tail)] != tail:
-        if line == len(codes):
-            raise TextFault(NOT_CLOSED, scanner.at)
-        line = line_end(codes, line)
+    line = line_with(codes, start, tail)
+    if line is None:
+        raise TextFault(NOT_CLOSED, scanner.at)
     # The last character of the content is left out, but there is none if the tail follows at once.
     text = tuple(codes[start:max(start, line - 1)])
     scanner.put(kind, line + len(tail), (label, text))

@@ -71,8 +71,13 @@ def literal_codes(text):
 
 def content_codes(name, label, text):
     """A code or formula with its beginning and its end."""
-    codes = codes_of("\\begin{" + name + "}{") + list(label) + [RIGHT_BRACE, LINE_FEED]
-    if text:
-        codes.extend(text)
+    return environment_codes(name, [LEFT_BRACE] + list(label) + [RIGHT_BRACE], list(text))
+
+
+def environment_codes(name, arguments, content):
+    """An environment with its arguments as they are written behind the name, and the lines of its content."""
+    codes = codes_of("\\begin{" + name + "}") + arguments + [LINE_FEED]
+    if content:
+        codes.extend(content)
         codes.append(LINE_FEED)
     return codes + codes_of("\\end{" + name + "}")

@@ -41,9 +41,14 @@ def code_from(sequence, length):
         if not 128 <= byte < 192:
             raise BadBytes()
         code = code * 64 + byte - 128
-    if code < LEAST_CODES[length] or code > GREATEST_CODE or 55296 <= code <= 57343:
+    if code < LEAST_CODES[length] or not is_code_point(code):
         raise BadBytes()
     return code
+
+
+def is_code_point(code):
+    """Whether a text can contain the code point: it is none beyond U+10FFFF and no surrogate."""
+    return code <= GREATEST_CODE and not 55296 <= code <= 57343
 
 
 def encoded(codes):

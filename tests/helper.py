@@ -1,4 +1,4 @@
-"""What all tests share: texts as lists of bytes, and answers as texts."""
+"""What all tests share: texts and notations as lists of bytes, and answers as texts."""
 
 import unittest
 
@@ -70,6 +70,25 @@ class Case(unittest.TestCase):
         """Whatever needs the expansion, but not the tree, has this error."""
         for function in markup.expand, markup.macros, markup.counters:
             self.assertEqual(self.ask(function, text), [code], text)
+
+    def writes(self, tree, text, notation=None):
+        """The tree has this text, and that text has this notation (the tree itself if none is given)."""
+        self.assertEqual(shown(self.ask(markup.write, tree)), text, tree)
+        self.assertEqual(self.ask(markup.losses, tree), [0], tree)
+        self.reads(text, tree if notation is None else notation)
+
+    def loses(self, tree, *kinds):
+        """The tree has losses of these kinds."""
+        self.assertEqual(self.ask(markup.losses, tree), [len(kinds)] + list(kinds), tree)
+        if kinds:
+            self.assertEqual(self.ask(markup.write, tree), [-33], tree)
+        else:
+            self.assertGreaterEqual(self.ask(markup.write, tree)[0], 0, tree)
+
+    def refuses(self, tree):
+        """The tree isn't the notation of a document."""
+        self.assertEqual(self.ask(markup.write, tree), [-20], tree)
+        self.assertEqual(self.ask(markup.losses, tree), [-20], tree)
 
     def fails_in_expansion(self, text, kind, position):
         """The text has this error, and it isn't one of the tokens."""

@@ -182,14 +182,16 @@ class Errors(Case):
 
     def test_errors_of_the_expansion(self):
         base = "\\newcommand\\a{}\\newcounter{a}\\newenvironment{e}{}{}"
-        for wrong in ("{", "}", "#1", "\\b", "\\newcounter", "\\setcounter{a}{x}", "\\newcommand\\a{}", "\\newcounter{a}",
+        for wrong in ("{", "}", "#1", "\\b", "\\newcounter", "\\setcounter{a}{x}", "\\newcommand\\a{}",
+                      "\\newcounter{a}",
                       "\\renewcommand\\b{}", "\\stepcounter{b}", "\\begin{e}", "\\end{e}", "\\begin{f}", "\\roman{a}",
                       "\\newenvironment{e}{}{}", "\\newenvironment{quote}{}{}", "\\newcommand\\emph{}",
                       "\\renewcommand\\a{\\a}\\a"):
             self.refuses_all(base + wrong, -20)
 
     def test_errors_of_the_tree_are_none(self):
-        for wrong in "&", "\\item", "\\emph", "\\heading{9}{}", "\\begin{itemize}\\end{itemize}", "\\begin{code}\\end{code}":
+        for wrong in ("&", "\\item", "\\emph", "\\heading{9}{}", "\\begin{itemize}\\end{itemize}",
+                      "\\begin{code}\\end{code}"):
             text = "\\newcommand\\a{}\\newcounter{a}" + wrong
             self.assertIn(markup.check(list(text.encode()))[0], range(1, 10), text)
             self.defines(text, '(macro "a" 0 0)')

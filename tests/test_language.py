@@ -8,7 +8,8 @@ import unittest
 from pathlib import Path
 
 PACKAGE = Path(__file__).resolve().parent.parent / "macromarkup"
-INTERFACE = ("check", "read", "tokens", "expand", "macros", "counters")
+INTERFACE = ("check", "read", "tokens", "expand", "macros", "counters", "write", "losses")
+REFUSALS = ("BadBytes", "TextFault", "TooDeep", "BadNotation", "NotExpressible")
 
 NODES = """
 Module Expr Constant ImportFrom alias FunctionDef arguments arg ClassDef Assign AugAssign If While For Return Break
@@ -106,7 +107,7 @@ class Forms(unittest.TestCase):
             if isinstance(node, ast.Raise):
                 self.assertIsInstance(node.exc, ast.Call, where)
             if isinstance(node, ast.ExceptHandler):
-                self.assertIn(node.type.id, ("BadBytes", "TextFault", "TooDeep", "KeyError"), where)
+                self.assertIn(node.type.id, REFUSALS, where)
 
     def test_functions(self):
         for path, node in nodes():

@@ -10,6 +10,8 @@ from helper import Case, shown
 from macromarkup import markup
 
 STYLES = ("emph", "strong", "caps")
+LEAVES = ("break", "code", "math", "noteref", "ref", "cite")
+WHITE = " \t\n\r"
 TEXTS = ("a", "b", " ", "a ", " b", "c d", "")
 
 
@@ -66,7 +68,7 @@ def runs_of(elements, wrappers):
     for element in elements:
         if element[0] == "text":
             runs.extend([(("text", part), wrappers) for part in words(element[1])])
-        elif element[0] in ("break", "code"):
+        elif element[0] in LEAVES:
             runs.append((element, wrappers))
         elif element[0] == "image":
             runs.append((("image", element[1], normal_inlines(element[2])), wrappers))
@@ -80,7 +82,7 @@ def runs_of(elements, wrappers):
 def words(text):
     parts = []
     for sign in text:
-        if parts and (parts[-1][-1] == " ") == (sign == " "):
+        if parts and (parts[-1][-1] in WHITE) == (sign in WHITE):
             parts[-1] += sign
         else:
             parts.append(sign)
@@ -88,7 +90,7 @@ def words(text):
 
 
 def is_gap(run):
-    return run[0][0] == "break" or run[0][0] == "text" and run[0][1].strip() == ""
+    return run[0][0] == "break" or run[0][0] == "text" and run[0][1].strip(WHITE) == ""
 
 
 def normal_inlines(elements):
@@ -140,13 +142,14 @@ def notation(parts):
 
 
 def quoted(text):
-    return '"' + text + '"'
+    short = {'"': '\\"', "\\": "\\\\", "\n": "\\n", "\t": "\\t"}
+    return '"' + "".join([short.get(sign, sign if sign >= " " else "\\u{%x}" % ord(sign)) for sign in text]) + '"'
 
 
 def inline_notation(element):
     if element[0] == "text":
         return quoted(element[1])
-    if len(element) < 3:
+    if element[0] in LEAVES:
         return notation([element[0]] + [quoted(part) for part in element[1:]])
     front = None
     if element[0] == "span":
