@@ -7,7 +7,7 @@ code points.
 from macromarkup.faults import BadBytes, BadNotation
 from macromarkup.lines import line_end
 from macromarkup.notation import LEAST_PLAIN, MOST_LISTS
-from macromarkup.signs import BACKSLASH, LEFT_BRACE, LINE_FEED, QUOTE, RIGHT_BRACE, WHITE, is_digit, name_of
+from macromarkup.signs import BACKSLASH, LEFT_BRACE, LINE_FEED, QUOTE, RIGHT_BRACE, TAB, WHITE, is_digit, name_of
 from macromarkup.utf import decoded, is_code_point
 
 SEMICOLON = 59
@@ -19,7 +19,6 @@ SMALL_N = 110
 SMALL_T = 116
 SMALL_U = 117
 SMALL_Z = 122
-TAB = 9
 MOST_DIGITS = 6
 MOST_HEXADECIMAL = 6
 

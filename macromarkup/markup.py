@@ -6,7 +6,8 @@ from macromarkup.faults import BadBytes, BadNotation, NotExpressible, TextFault,
 from macromarkup.inventory import counters_of, macros_of
 from macromarkup.lost import losses_of
 from macromarkup.normal import normalize
-from macromarkup.notation import notation_of
+from macromarkup.notation import check_depth, notation_of
+from macromarkup.plain import plain_blocks
 from macromarkup.scan import scanned
 from macromarkup.showing import text_of
 from macromarkup.tree import tree_of
@@ -28,7 +29,7 @@ def check(text):
 def read(text):
     """The length and the bytes of the canonical notation of the document."""
     try:
-        codes = notation_of(document_of(text))
+        codes = notation_of(shallow_document_of(text))
     except BadBytes:
         return [-24]
     except TextFault:
@@ -105,6 +106,34 @@ def losses(tree):
     return [len(kinds)] + kinds
 
 
+def format_of(text):
+    """The length and the bytes of the text of the document of a text."""
+    try:
+        codes = written(shallow_document_of(text))
+    except BadBytes:
+        return [-24]
+    except TextFault:
+        return [-20]
+    except TooDeep:
+        return [-28]
+    except NotExpressible:
+        return [-33]
+    return with_length(encoded(codes))
+
+
+def plain_text(text):
+    """The length and the bytes of the plain text of the document."""
+    try:
+        codes = plain_blocks(shallow_document_of(text).children)
+    except BadBytes:
+        return [-24]
+    except TextFault:
+        return [-20]
+    except TooDeep:
+        return [-28]
+    return with_length(encoded(codes))
+
+
 def expansion_of(text):
     """The state at the end of the expansion of a text."""
     return expanded(scanned(decoded(text)))
@@ -114,6 +143,13 @@ def document_of(text):
     """The document of a text in normal form."""
     document = tree_of(expansion_of(text).done)
     normalize(document)
+    return document
+
+
+def shallow_document_of(text):
+    """The document of a text if its notation isn't nested too deeply."""
+    document = document_of(text)
+    check_depth(document)
     return document
 
 

@@ -2,32 +2,40 @@
 
 from macromarkup.faults import TooDeep
 from macromarkup.nodes import Node
-from macromarkup.signs import BACKSLASH, BLANK, LINE_FEED, QUOTE, codes_of
+from macromarkup.signs import BACKSLASH, BLANK, LINE_FEED, QUOTE, TAB, codes_of
 
 MOST_LISTS = 16
 LEAST_PLAIN = 32
 
 
 def notation_of(document):
-    """The code points of the canonical notation of a document in normal form."""
+    """The code points of the canonical notation of a document in normal form that isn't nested too deeply."""
     codes = []
     for block in document.children:
         if codes:
             codes.append(LINE_FEED)
-        codes.extend(list_codes(block, 1))
+        codes.extend(list_codes(block))
     return codes
 
 
-def list_codes(node, depth):
-    """The code points of a list at this depth; those in it are at most as deep as the language allows."""
-    if depth > MOST_LISTS:
-        raise TooDeep()
+def check_depth(document):
+    """Sees to it that the lists of the notation wouldn't be nested too deeply."""
+    rest = [(block, 1) for block in document.children]
+    while rest:
+        node, depth = rest.pop()
+        if depth > MOST_LISTS:
+            raise TooDeep()
+        rest.extend([(part, depth + 1) for part in parts_of(node) if isinstance(part, Node)])
+
+
+def list_codes(node):
+    # Lists are nested at most as deep as the language allows.
     codes = codes_of("(")
     for part in parts_of(node):
         if len(codes) > 1:
             codes.append(BLANK)
         if isinstance(part, Node):
-            codes.extend(list_codes(part, depth + 1))
+            codes.extend(list_codes(part))
         else:
             codes.extend(atom_codes(part))
     codes.extend(codes_of(")"))
@@ -82,7 +90,7 @@ def escaped_code(code):
         return [BACKSLASH, code]
     if code == LINE_FEED:
         return codes_of("\\n")
-    if code == 9:
+    if code == TAB:
         return codes_of("\\t")
     if code < LEAST_PLAIN:
         return codes_of("\\u{" + hexadecimal(code) + "}")

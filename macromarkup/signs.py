@@ -1,5 +1,6 @@
 """Single characters as code points: those that the language names, and which sort one belongs to."""
 
+TAB = 9
 LINE_FEED = 10
 BLANK = 32
 QUOTE = 34

@@ -38,9 +38,9 @@ class Case(unittest.TestCase):
         self.assertEqual(self.ask(markup.check, text), list(expected), text)
 
     def fails(self, text, kind, position):
-        """The text has this error, for check and for read."""
+        """The text has this error, for check and for whatever needs its document."""
         self.checks(text, kind, position)
-        self.assertEqual(self.ask(markup.read, text), [-20], text)
+        self.refuses_document(text, -20)
 
     def reads(self, text, notation, count=None):
         """The text has the document with this notation, one line for each block."""
@@ -70,6 +70,28 @@ class Case(unittest.TestCase):
         """Whatever needs the expansion, but not the tree, has this error."""
         for function in markup.expand, markup.macros, markup.counters:
             self.assertEqual(self.ask(function, text), [code], text)
+
+    def refuses_document(self, text, code):
+        """Whatever gives back the document in some form has this error."""
+        for function in markup.read, markup.format_of, markup.plain_text:
+            self.assertEqual(self.ask(function, text), [code], text)
+
+    def formats(self, text, expected):
+        """The text has this form, which has the same document and stays as it is."""
+        self.assertEqual(shown(self.ask(markup.format_of, text)), expected, text)
+        # What was formatted may be longer than a text that is handed in.
+        if len(data(expected)) <= 600:
+            self.assertEqual(shown(self.ask(markup.format_of, expected)), expected, text)
+            self.assertEqual(self.ask(markup.read, expected), self.ask(markup.read, text), text)
+
+    def is_lost(self, text):
+        """The document of the text has losses."""
+        self.assertEqual(self.ask(markup.format_of, text), [-33], text)
+        self.assertEqual(self.ask(markup.check, text)[0], 0, text)
+
+    def says(self, text, expected):
+        """The document of the text has this plain text."""
+        self.assertEqual(shown(self.ask(markup.plain_text, text)), expected, text)
 
     def writes(self, tree, text, notation=None):
         """The tree has this text, and that text has this notation (the tree itself if none is given)."""

@@ -8,7 +8,9 @@ import unittest
 from pathlib import Path
 
 PACKAGE = Path(__file__).resolve().parent.parent / "macromarkup"
-INTERFACE = ("check", "read", "tokens", "expand", "macros", "counters", "write", "losses")
+INTERFACE = (
+    "check", "read", "tokens", "expand", "macros", "counters", "write", "losses", "format_of", "plain_text",
+)
 REFUSALS = ("BadBytes", "TextFault", "TooDeep", "BadNotation", "NotExpressible")
 
 NODES = """
