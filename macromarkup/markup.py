@@ -7,9 +7,11 @@ from macromarkup.inventory import counters_of, macros_of
 from macromarkup.lost import losses_of
 from macromarkup.normal import normalize
 from macromarkup.notation import check_depth, notation_of
+from macromarkup.numerals import GREATEST_ROMAN, roman_text
 from macromarkup.plain import plain_blocks
 from macromarkup.scan import scanned
 from macromarkup.showing import text_of
+from macromarkup.signs import codes_of
 from macromarkup.tree import tree_of
 from macromarkup.utf import decoded, encoded
 from macromarkup.writing import written
@@ -132,6 +134,30 @@ def plain_text(text):
     except TooDeep:
         return [-28]
     return with_length(encoded(codes))
+
+
+def is_same(first, second):
+    """1 if both texts have the same document, otherwise 0."""
+    try:
+        # The first text is done with before the second one is looked at.
+        codes = notation_of(shallow_document_of(first))
+        other_codes = notation_of(shallow_document_of(second))
+    except BadBytes:
+        return [-24]
+    except TextFault:
+        return [-20]
+    except TooDeep:
+        return [-28]
+    if codes == other_codes:
+        return [1]
+    return [0]
+
+
+def roman(value):
+    """The length and the bytes of a Roman number in lowercase letters."""
+    if not 1 <= value <= GREATEST_ROMAN:
+        return [-22]
+    return with_length(codes_of(roman_text(value)))
 
 
 def expansion_of(text):

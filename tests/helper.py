@@ -10,6 +10,13 @@ def data(text):
     return list(text.encode("utf-8"))
 
 
+def as_handed_in(value):
+    """A text or bytes as a list of bytes; a number as it is."""
+    if isinstance(value, int):
+        return value
+    return data(value) if isinstance(value, str) else list(value)
+
+
 def shown(answer):
     """The text that an answer of a length and bytes holds, or the answer itself if it is an error."""
     if len(answer) == 1 and answer[0] < 0:
@@ -22,14 +29,14 @@ def shown(answer):
 class Case(unittest.TestCase):
     """Asks the functions of the program about texts."""
 
-    def ask(self, function, text):
-        """What the function answers; the list handed in must stay as it is, and a second call must answer the same."""
-        given = data(text) if isinstance(text, str) else list(text)
-        self.assertLessEqual(len(given), 600, text)
-        kept = list(given)
-        answer = function(given)
-        self.assertEqual(given, kept, text)
-        self.assertEqual(function(given), answer, text)
+    def ask(self, function, *handed):
+        """What the function answers; what is handed in must stay as it is, and a second call must answer the same."""
+        given = [as_handed_in(one) for one in handed]
+        self.assertTrue(all([isinstance(one, int) or len(one) <= 600 for one in given]), handed)
+        kept = [one if isinstance(one, int) else list(one) for one in given]
+        answer = function(*given)
+        self.assertEqual(given, kept, handed)
+        self.assertEqual(function(*given), answer, handed)
         self.assertIs(type(answer), list)
         self.assertTrue(all([type(number) is int for number in answer]), answer)
         return answer
@@ -75,6 +82,13 @@ class Case(unittest.TestCase):
         """Whatever gives back the document in some form has this error."""
         for function in markup.read, markup.format_of, markup.plain_text:
             self.assertEqual(self.ask(function, text), [code], text)
+        for first, second in (text, ""), ("", text), (text, text):
+            self.assertEqual(self.ask(markup.is_same, first, second), [code], text)
+
+    def compares(self, first, second, expected):
+        """Whether both texts have the same document, whichever is the first one."""
+        self.assertEqual(self.ask(markup.is_same, first, second), [expected], (first, second))
+        self.assertEqual(self.ask(markup.is_same, second, first), [expected], (second, first))
 
     def formats(self, text, expected):
         """The text has this form, which has the same document and stays as it is."""
@@ -83,6 +97,7 @@ class Case(unittest.TestCase):
         if len(data(expected)) <= 600:
             self.assertEqual(shown(self.ask(markup.format_of, expected)), expected, text)
             self.assertEqual(self.ask(markup.read, expected), self.ask(markup.read, text), text)
+            self.compares(text, expected, 1)
 
     def is_lost(self, text):
         """The document of the text has losses."""

@@ -10,6 +10,7 @@ from pathlib import Path
 PACKAGE = Path(__file__).resolve().parent.parent / "macromarkup"
 INTERFACE = (
     "check", "read", "tokens", "expand", "macros", "counters", "write", "losses", "format_of", "plain_text",
+    "is_same", "roman",
 )
 REFUSALS = ("BadBytes", "TextFault", "TooDeep", "BadNotation", "NotExpressible")
 
